@@ -1,0 +1,1 @@
+"""Streams by equations, instant by instant."""

@@ -1,0 +1,73 @@
+"""What the tests share: texts with a mark at a place, and what `order` answers for them."""
+
+import unittest
+
+from instants.streams import order
+
+ROOM = 2000000
+MARK = "@"
+
+# Nodes to call, and a node with names of both kinds whose equations a test gives.
+NODES = (
+    "node one(a: int) returns (b: int); let b = a; tel\n"
+    "node flip(a: bool) returns (b: bool); let b = not a; tel\n"
+    "node both(a: int; q: bool) returns (b: int; c: bool); let b = a; c = q; tel\n"
+    "node join(a: int; q: bool) returns (b: int); let b = if q then a else 0; tel\n"
+)
+HEAD = "node f(x, z: int; p, q: bool) returns (y: int; r: bool);\nlet\n"
+
+
+def bytes_of(text):
+    return list(text.encode("latin-1"))
+
+
+def unmarked(marked):
+    """The text without its mark, and the place where the mark stood."""
+    if marked.count(MARK) != 1:
+        raise ValueError("just one mark is needed: " + marked)
+    return marked.replace(MARK, ""), marked.index(MARK)
+
+
+def node_f(equations):
+    return NODES + HEAD + equations + "\ntel\n"
+
+
+def int_is(expression):
+    """A text in which this expression, an int, is all that may be wrong."""
+    return node_f("r = true; y = " + expression + ";")
+
+
+def bool_is(expression):
+    return node_f("y = 0; r = " + expression + ";")
+
+
+class OrderCase(unittest.TestCase):
+    def answered(self, text, most=ROOM):
+        return order(most, bytes_of(text))
+
+    def assert_lines(self, text, lines):
+        self.assertEqual(self.answered(text), [len(lines)] + bytes_of(lines))
+
+    def assert_refused(self, text, number, most=ROOM):
+        self.assertEqual(self.answered(text, most), [number], text[:400])
+
+    def assert_right(self, text):
+        self.assertGreaterEqual(self.answered(text)[0], 0, text[:400])
+
+    def assert_limit(self, text):
+        self.assert_refused(text, -5)
+
+    def assert_token(self, marked):
+        text, place = unmarked(marked)
+        self.assert_refused(text, -100 - place)
+
+    def assert_rule(self, marked):
+        text, place = unmarked(marked)
+        self.assert_refused(text, -1000000 - place)
+
+    def assert_order_of_f(self, equations, numbers):
+        """The order of the last node's equations, whatever the nodes before it have."""
+        answer = self.answered(node_f(equations))
+        self.assertGreaterEqual(answer[0], 0, answer)
+        last = bytes(answer[1:]).decode().splitlines()[-1]
+        self.assertEqual(last, "f " + numbers)
