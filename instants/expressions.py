@@ -80,6 +80,7 @@ class Builder:
             self.nest(")", None)
         elif kind == "if":
             token = self.reader.take("if")
+            self.add_operator()
             self.nest("then", Part("if", token.place, 3, None))
         elif kind in ("reset", "activate"):
             self.read_way(kind)

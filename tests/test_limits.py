@@ -272,8 +272,15 @@ class Operators(OrderCase):
         self.assert_right(int_is(call + ("+" + call) * 1047 + "+x" + sums))
         self.assert_limit(int_is(call + ("+" + call) * 1047 + "+x+x" + sums))
 
-    def test_ifs_and_brackets_are_none(self):
-        self.assert_right(int_is("x" + "+(if p then x else z)" * 2900))
+    def test_ifs(self):
+        self.assert_right(int_is("x" + "+(if p then x else z)" * 2048))
+        self.assert_limit(int_is("x" + "+(if p then x else z)" * 2048 + "+x"))
+        self.assert_right(int_is("x*" * 4095 + "if p then x else z"))
+        self.assert_limit(int_is("x*" * 4096 + "if p then x else z"))
+        self.assert_right(node_f("y = if p then x else z; r = p" + " or p" * 4095 + ";"))
+        self.assert_limit(node_f("y = if p then x else z; r = p" + " or p" * 4096 + ";"))
+
+    def test_brackets_are_none(self):
         self.assert_right(int_is("x" + "+((x))" * OPERATORS))
 
     def test_the_sign_of_a_value_is_none(self):
@@ -303,7 +310,8 @@ class Operators(OrderCase):
         self.assert_limit(int_is(full + "- $"))
         self.assert_limit(int_is(full + "one($"))
         self.assert_token(int_is(full + "one @$"))
-        self.assert_token(int_is(full + "if @$"))
+        self.assert_limit(int_is(full + "if $"))
+        self.assert_token(int_is(full + "@$ if"))
 
     def test_limits_come_before_broken_rules(self):
         self.assert_limit(node_f("y = w; r = p" + " or p" * 4097 + ";"))
