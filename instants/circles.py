@@ -15,26 +15,21 @@ def names_needed(code):
     return needed
 
 
+# A name has one equation, the first with it on the left: a later one is wrong there and tells nothing of its value.
 def equations_by_name(node):
     found = {}
     for k, equation in enumerate(node.equations):
         for token in equation.lefts:
-            found.setdefault(token.text, []).append(k)
+            found.setdefault(token.text, k)
     return found
 
 
-# Names stand as steps of their own between the equations: a name in many equations on the left
-# and in many on the right would else make as many links as both multiplied.
+# For each equation those of the names that it needs.
 def links_of(node):
     by_name = equations_by_name(node)
-    number = {}
-    for name in by_name:
-        number[name] = len(node.equations) + len(number)
     links = []
     for equation in node.equations:
-        links.append([number[name] for name in names_needed(equation.code) if name in number])
-    for name in by_name:
-        links.append(by_name[name])
+        links.append([by_name[name] for name in names_needed(equation.code) if name in by_name])
     return links
 
 
@@ -46,7 +41,7 @@ def turned_round(links):
     return turned
 
 
-# Every step behind all that is reached from it, but for circles.
+# Every equation behind all that is reached from it, but for circles.
 def ended_order(links):
     seen = [False for link in links]
     tried = [0 for link in links]
@@ -67,16 +62,16 @@ def ended_order(links):
     return ended
 
 
-# Steps get the same number where each is reached from the other.
+# Equations get the same number where each is reached from the other.
 def circle_numbers(links):
     back = turned_round(links)
     numbers = [-1 for link in links]
     for start in reversed(ended_order(links)):
         waiting = [start] if numbers[start] < 0 else []
         while len(waiting) > 0:
-            step = waiting.pop()
-            numbers[step] = start
-            waiting.extend([other for other in back[step] if numbers[other] < 0])
+            reached = waiting.pop()
+            numbers[reached] = start
+            waiting.extend([other for other in back[reached] if numbers[other] < 0])
     return numbers
 
 
@@ -98,10 +93,7 @@ def first_ready(needed, done):
 
 # Of a node without circles: always the first that's left of those that depend on none that's left.
 def working_order(node):
-    by_name = equations_by_name(node)
-    needed = []
-    for equation in node.equations:
-        needed.append([by_name[name][0] for name in names_needed(equation.code) if name in by_name])
+    needed = links_of(node)
     done = [False for equation in node.equations]
     order = []
     while len(order) < len(done):

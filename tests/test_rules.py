@@ -325,9 +325,26 @@ class Circles(OrderCase):
         self.assert_rule(node_f("r = true; @y = w; w = y;"))
         self.assert_rule(node_f("(@y, p) = both(x, p); r = true;"))
 
-    def test_of_a_name_with_several_equations(self):
-        self.assert_rule("node f(x: int) returns (a, b: int); let @a = b; b = x; b = a; tel")
-        self.assert_rule("node f(x: int) returns (a, b: int); let @a = b; b = a; b = x; tel")
+    def test_a_name_with_several_equations_has_the_first(self):
+        names = "node f(x: int) returns (a, b: int); let %s tel"
+        self.assert_rule(names % "a = b; b = x; @b = a;")
+        self.assert_rule(names % "@a = b; b = a; b = x;")
+        self.assert_rule(names % "b = x; a = b; @b = b;")
+        self.assert_rule(names % "a = x; b = a; @b = b; a = b;")
+        self.assert_rule(names % "b = x; @b = a; a = b;")
+        self.assert_rule(names % "@b = a; a = b; b = x;")
+
+    def test_a_name_again_beside_another_that_has_its_equation_there(self):
+        first = "node two(x: int) returns (a, b: int); let a = x; b = x; tel\n"
+        names = first + "node f(x: int) returns (a, b: int); let b = x; %s tel"
+        self.assert_rule(names % "(a, @b) = two(b);")
+        self.assert_rule(names % "(@a, b) = two(a);")
+        self.assert_rule(names % "(@a, b) = two(a + b);")
+
+    def test_an_input_with_several_equations_has_the_first_too(self):
+        names = "node f(x, z: int) returns (a, b: int); let %s tel"
+        self.assert_rule(names % "@a = z; z = a; z = x; b = x;")
+        self.assert_rule(names % "a = z; @z = x; z = a; b = x;")
 
 
 class Several(OrderCase):

@@ -361,8 +361,9 @@ class Judge:
         equations = self.node["equations"]
         needs = []
         for _, _, tree in equations:
-            names = self.now(tree)
-            needs.append({k for k, other in enumerate(equations) if names & {token[2] for token in other[0]}})
+            having = [[k for k, other in enumerate(equations) if name in [token[2] for token in other[0]]]
+                      for name in self.now(tree)]
+            needs.append({min(numbers) for numbers in having if numbers})
         for _ in equations:
             needs = [set().union(direct, *[needs[k] for k in direct]) for direct in needs]
         return needs
