@@ -56,6 +56,18 @@ def declared_names(node):
     return node.inputs + node.outputs + node.inner
 
 
+# How much an instance of the node keeps, but for the instances of its calls.
+def own_size(node):
+    size = 1
+    for equation in node.equations:
+        for part in equation.code:
+            if part.what in ("pre", "fby"):
+                size += 1
+            if part.what == "call":
+                size += len(part.worth.firsts)
+    return size
+
+
 # The last parts of a stack, in their order; they're off it afterwards.
 def taken_off(stack, size):
     parts = []

@@ -19,6 +19,16 @@ class WrongNumber(Refusal):
         Refusal.__init__(self, -2)
 
 
+class NoNode(Refusal):
+    def __init__(self):
+        Refusal.__init__(self, -3)
+
+
+class WrongGiven(Refusal):
+    def __init__(self):
+        Refusal.__init__(self, -4)
+
+
 class PastLimit(Refusal):
     def __init__(self):
         Refusal.__init__(self, -5)

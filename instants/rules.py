@@ -3,7 +3,7 @@
 from instants.beginnings import wrong_beginnings
 from instants.circles import wrong_circles
 from instants.kinds import wrong_kinds
-from instants.parts import declared_names
+from instants.parts import declared_names, own_size
 from instants.refusals import BrokenRule, PastLimit
 
 MOST_KEPT = 1000000
@@ -74,13 +74,11 @@ def hold_to_rules(nodes):
 
 # How much an instance of the node keeps, by how much those of the nodes before do.
 def kept_by(node, kept):
-    total = 1
+    total = own_size(node)
     for equation in node.equations:
         for part in equation.code:
-            if part.what in ("pre", "fby"):
-                total += 1
             if part.what == "call":
-                total += len(part.worth.firsts) + kept[part.worth.name]
+                total += kept[part.worth.name]
     return total
 
 

@@ -1,11 +1,15 @@
-"""The calls: order."""
+"""The calls: order and run."""
 
 from instants.circles import working_order
+from instants.making import made_program
 from instants.reading import read_nodes
-from instants.refusals import Refusal, TooLong, WrongNumber
+from instants.refusals import NoNode, Refusal, TooLong, WrongNumber
 from instants.rules import hold_to_kept, hold_to_rules
+from instants.running import hold_given, run_program
 
 MOST_BYTES = 65536
+MOST_STEPS = 65536
+MOST_VALUES = 4194304
 
 
 def held_nodes(text):
@@ -37,3 +41,29 @@ def order(most, text):
     except Refusal as e:
         return [e.answer]
     return [len(answer)] + answer
+
+
+def hold_numbers(steps, most, text, given):
+    if not 0 <= steps <= MOST_STEPS or not 0 <= most <= MOST_VALUES:
+        raise WrongNumber()
+    if len(text) > MOST_BYTES or len(given) > MOST_VALUES:
+        raise WrongNumber()
+
+
+def output_values(node, steps, most, text, given):
+    hold_numbers(steps, most, text, given)
+    nodes = held_nodes(text)
+    if not 0 <= node < len(nodes):
+        raise NoNode()
+    hold_given(nodes[node], steps, given)
+    if steps * len(nodes[node].outputs) > most:
+        raise TooLong()
+    return run_program(made_program(nodes[:node + 1]), steps, given)
+
+
+def run(node, steps, most, text, given):
+    try:
+        answer = output_values(node, steps, most, text, given)
+    except Refusal as e:
+        return [e.answer]
+    return [steps] + answer

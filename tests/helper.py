@@ -1,10 +1,12 @@
-"""What the tests share: texts with a mark at a place, and what `order` answers for them."""
+"""What the tests share: texts with a mark at a place, and what `order` and `run` answer for them."""
 
+import time
 import unittest
 
-from instants.streams import order
+from instants.streams import order, run
 
 ROOM = 2000000
+SECONDS = 20
 MARK = "@"
 
 # Nodes to call, and a node with names of both kinds whose equations a test gives.
@@ -41,6 +43,16 @@ def bool_is(expression):
     return node_f("y = 0; r = " + expression + ";")
 
 
+class InGoodTime(unittest.TestCase):
+    """Each of its tests fails if it takes too long."""
+
+    def setUp(self):
+        self.began = time.monotonic()
+
+    def tearDown(self):
+        self.assertLess(time.monotonic() - self.began, SECONDS)
+
+
 class OrderCase(unittest.TestCase):
     def answered(self, text, most=ROOM):
         return order(most, bytes_of(text))
@@ -71,3 +83,22 @@ class OrderCase(unittest.TestCase):
         self.assertGreaterEqual(answer[0], 0, answer)
         last = bytes(answer[1:]).decode().splitlines()[-1]
         self.assertEqual(last, "f " + numbers)
+
+
+def flat(rows):
+    return [number for row in rows for number in row]
+
+
+class RunCase(unittest.TestCase):
+    """Runs the last node of a text, or another; what's given and what's told are rows, one for each instant."""
+
+    def answered(self, text, rows, node=None):
+        node = text.count("node ") - 1 if node is None else node
+        return run(node, len(rows), ROOM, bytes_of(text), flat(rows))
+
+    def assert_told(self, text, rows, told, node=None):
+        self.assertEqual(self.answered(text, rows, node), [len(told)] + flat(told), text[:400])
+
+    def assert_stream(self, text, column, told):
+        """Of a node with one input and one output."""
+        self.assert_told(text, [[number] for number in column], [[number] for number in told])

@@ -46,14 +46,17 @@ def tree_of(path):
     return ast.parse(path.read_text(encoding="utf-8"))
 
 
-def plain(node):
+def plain(node, functions):
+    """A plain value, or a list, tuple or dict of such and of the functions above it."""
     if isinstance(node, ast.Constant):
         return isinstance(node.value, (int, str, type(None)))
     if isinstance(node, (ast.List, ast.Tuple)):
-        return all(plain(part) for part in node.elts)
-    if isinstance(node, ast.Dict):
-        return all(plain(part) for part in node.keys + node.values)
-    return False
+        parts = node.elts
+    elif isinstance(node, ast.Dict):
+        parts = node.keys + node.values
+    else:
+        return False
+    return all(isinstance(part, ast.Name) and part.id in functions or plain(part, functions) for part in parts)
 
 
 class Form(unittest.TestCase):
@@ -89,12 +92,13 @@ class Form(unittest.TestCase):
             body = tree.body
             self.assertIsInstance(ast.get_docstring(tree), str, path)
             bound = []
+            functions = []
             for node in body[1:]:
                 where = "%s:%d" % (path.name, node.lineno)
                 self.assertIsInstance(node, (ast.ImportFrom, ast.FunctionDef, ast.ClassDef, ast.Assign), where)
                 if isinstance(node, ast.Assign):
                     self.assertIsInstance(node.targets[0], ast.Name, where)
-                    self.assertTrue(plain(node.value), where)
+                    self.assertTrue(plain(node.value, functions), where)
                     bound.append(node.targets[0].id)
                     if isinstance(node.value, (ast.List, ast.Dict)):
                         inner = [part for part in ast.walk(node.value) if isinstance(part, (ast.List, ast.Dict))]
@@ -103,6 +107,7 @@ class Form(unittest.TestCase):
                     bound += [name.name for name in node.names]
                 else:
                     bound.append(node.name)
+                    functions += [node.name] if isinstance(node, ast.FunctionDef) else []
             self.assertEqual(len(bound), len(set(bound)), path)
 
     def test_imports(self):
@@ -117,7 +122,9 @@ class Form(unittest.TestCase):
                     self.assertRegex(node.module, r"^instants\.[a-z_0-9]+$")
                     other = node.module.split(".")[1]
                     drawn[path.stem].append(other)
-                    tops = {getattr(part, "name", None) for part in tree_of(FOLDER / (other + ".py")).body}
+                    others = tree_of(FOLDER / (other + ".py")).body
+                    tops = {part.name for part in others if isinstance(part, (ast.FunctionDef, ast.ClassDef))}
+                    tops |= {part.targets[0].id for part in others if isinstance(part, ast.Assign)}
                     for name in node.names:
                         self.assertIn(name.name, tops)
                         self.assertIsNone(name.asname)

@@ -1,7 +1,9 @@
 """What goes in stays as it was, nothing is kept, and what comes out is a list of whole numbers."""
 
+import unittest
+
 from helper import OrderCase, bool_is, bytes_of, int_is, node_f
-from instants.streams import order
+from instants.streams import order, run
 
 TEXTS = (
     int_is("0 -> pre x"),
@@ -55,3 +57,89 @@ class Interface(OrderCase):
     def test_more_bytes_than_a_text_has(self):
         self.assertEqual(order(10, [32] * 65537), [-2])
         self.assertEqual(order(10, [32] * 65536), [-65636])
+
+
+# Calls of run, as a text, a node, steps, most and what's given.
+SUMS = "node sum(x: int; p: bool) returns (y: int; q: bool); let y = (0 fby y) + x; q = not (true -> pre p); tel\n"
+HELD = SUMS + (
+    "node f(x: int; p: bool) returns (y: int; q: bool; r: bool);"
+    " let (y, q) = activate sum(x, p) every p initial (-3, true); r = q and x < 5; tel\n"
+)
+CALLS = (
+    (SUMS, 0, 3, 100, [1, 0, 2, 1, 3, 0]),
+    (HELD, 1, 3, 100, [1, 0, 2, 1, 3, 1]),
+    (HELD, 0, 0, 0, []),
+    (HELD, 2, 1, 100, [1, 0]),
+    (HELD, 1, 1, 100, [1, 2]),
+    (HELD, 1, 1, 2, [1, 1]),
+    (HELD, 1, -1, 2, [1, 1]),
+    (int_is("x + p"), 0, 1, 100, [1]),
+    ("", 0, 1, 100, [1]),
+    ("x" * 32, 0, 1, 100, [1]),
+)
+
+
+def asked(call):
+    text, node, steps, most, given = call
+    return run(node, steps, most, bytes_of(text), list(given))
+
+
+class RunInterface(unittest.TestCase):
+    def test_what_is_handed_in_is_as_it_was(self):
+        for text, node, steps, most, given in CALLS:
+            first, second = bytes_of(text), list(given)
+            run(node, steps, most, first, second)
+            self.assertEqual((first, second), (bytes_of(text), given))
+
+    def test_what_is_handed_in_is_not_changed_for_a_while_either(self):
+        class Held(list):
+            def refuse(self, *args):
+                raise AssertionError("changed")
+            append = extend = insert = pop = remove = clear = sort = reverse = refuse
+            __setitem__ = __delitem__ = __iadd__ = __imul__ = refuse
+        for text, node, steps, most, given in CALLS:
+            answer = run(node, steps, most, Held(bytes_of(text)), Held(given))
+            self.assertEqual(answer, asked((text, node, steps, most, given)))
+
+    def test_the_same_call_answers_the_same(self):
+        firsts = [asked(call) for call in CALLS]
+        for call, first in zip(CALLS, firsts):
+            for other in CALLS:
+                asked(other)
+                order(100, bytes_of(other[0]))
+                self.assertEqual(asked(call), first)
+
+    def test_an_answer_may_be_changed(self):
+        for call in CALLS:
+            first = asked(call)
+            kept = list(first)
+            first.clear()
+            self.assertEqual(asked(call), kept)
+
+    def test_the_answer_is_a_list_of_whole_numbers(self):
+        for call in CALLS:
+            answer = asked(call)
+            self.assertIs(type(answer), list)
+            self.assertTrue(answer)
+            for number in answer:
+                self.assertIs(type(number), int)
+
+    def test_truth_values_are_told_as_0_and_1(self):
+        rights = "p, not p, p and q, p or q, p xor q, p => q, p = q, x < 1, x <= 1, x > 1, x >= 1, x = 1, x <> 1, true"
+        rights += ", false, p -> q, p fby q, false -> pre p, if p then q else p"
+        for right in rights.split(", "):
+            text = "node f(p, q: bool; x: int) returns (r: bool); let r = %s; tel" % right
+            answer = run(0, 4, 100, bytes_of(text), [0, 0, 0, 1, 0, 1, 0, 1, 2, 1, 1, 3])
+            for number in answer:
+                self.assertIs(type(number), int)
+            self.assertLessEqual(set(answer[1:]), {0, 1})
+
+    def test_refusals_are_alone_and_others_as_long_as_they_say(self):
+        for call in CALLS:
+            answer = asked(call)
+            outputs = {SUMS: 2, HELD: 3 if call[1] == 1 else 2}.get(call[0], 0)
+            self.assertEqual(len(answer), 1 + outputs * max(answer[0], 0))
+
+    def test_all_by_name(self):
+        text = bytes_of("node f(x: int) returns (y: int); let y = x + 1; tel")
+        self.assertEqual(run(node=0, steps=2, most=2, text=text, given=[1, 2]), [2, 2, 3])

@@ -1,20 +1,11 @@
 """Texts as long and as deep as they may be, in good time."""
 
-import time
-
-from helper import OrderCase, bool_is, int_is
+from helper import InGoodTime, OrderCase, bool_is, int_is
 
 MOST = 65536
-SECONDS = 10
 
 
-class Long(OrderCase):
-    def setUp(self):
-        self.began = time.monotonic()
-
-    def tearDown(self):
-        self.assertLess(time.monotonic() - self.began, SECONDS)
-
+class Long(InGoodTime, OrderCase):
     def test_a_text_of_blanks(self):
         self.assert_refused(" " * MOST, -100 - MOST)
         self.assert_refused("-" * MOST, -100 - MOST)

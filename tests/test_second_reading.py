@@ -250,12 +250,14 @@ class Trees:
             parts.append(self.before_one())
         if way == "activate":
             self.take()
+            sign = 1
             while not self.sees(")"):
                 token = self.take()
                 if token[0] in ("true", "false"):
-                    values.append("bool")
+                    values.append(("bool", token[0] == "true"))
                 elif token[0] == "number":
-                    values.append("int")
+                    values.append(("int", sign * int(token[2])))
+                sign = -1 if token[0] == "-" else 1
             self.take()
         return ("call", name[1], parts, (name[2], way, values))
 
@@ -324,7 +326,7 @@ class Judge:
             outputs = [kind for _, _, kind in self.before[name]["outputs"]]
             inputs = [kind for _, _, kind in self.before[name]["inputs"]]
             right = given == inputs + (["bool"] if way else [])
-            right = right and (way != "activate" or values == outputs) and (alone or len(outputs) == 1)
+            right = right and (way != "activate" or [kind for kind, _ in values] == outputs) and (alone or len(outputs) == 1)
             return outputs if right else None
         if what in ("+", "-", "*", "/", "mod"):
             return ["int"] if set(given) == {"int"} else None
