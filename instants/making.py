@@ -1,6 +1,7 @@
 """Making programs of nodes: which cell each value lies in, and what is worked out from what, in which order."""
 
 from instants.circles import working_order
+from instants.lanes import lane_work_of
 from instants.operators import work_of
 from instants.parts import Part, own_size, taken_off
 from instants.programs import FIRST, Program, Site
@@ -57,12 +58,12 @@ class Maker:
 
     def work_out(self, what, left, right):
         to = self.new_cell(0)
-        self.acts.append((work_of(what), to, left, right, FIRST))
+        self.acts.append((work_of(what), to, left, right, FIRST, lane_work_of(what)))
         return to
 
     def choose(self, test, left, right):
         to = self.new_cell(0)
-        self.acts.append((None, to, left, right, test))
+        self.acts.append((None, to, left, right, test, None))
         return to
 
     def end_stretch(self, site):

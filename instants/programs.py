@@ -20,8 +20,9 @@ class Program:
         # How much an instance keeps in all.
         self.room = own
         # What's done at an instant, in order: pairs of a list of acts and the call behind them, or None.
-        # An act is a function, the cell that's worked out by it, and two that it's given; or it is None,
-        # a cell, and the two of which one is chosen: the first where the last cell is true.
+        # An act is a function, the cell that's worked out by it, two that it's given, one of no use, and the
+        # function that does it for many runs at once; or it is None, a cell, the two of which one is chosen,
+        # the cell that's true where it's the first of these, and None.
         self.stretches = []
         self.sites = []
         # Pairs: one of the instance's own cells, and the cell whose value is kept there at an instant's end.
@@ -46,7 +47,7 @@ class Program:
         if self.own > 1:
             cells[1:self.own] = kept[base + 1:base + self.own]
         for acts, site in self.stretches:
-            for work, to, left, right, test in acts:
+            for work, to, left, right, test, lane_work in acts:
                 if work is None:
                     cells[to] = cells[left] if cells[test] == 1 else cells[right]
                 else:

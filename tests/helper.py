@@ -1,9 +1,9 @@
-"""What the tests share: texts with a mark at a place, and what `order` and `run` answer for them."""
+"""What the tests share: texts with a mark at a place, and what the three calls answer for them."""
 
 import time
 import unittest
 
-from instants.streams import order, run
+from instants.streams import broken, order, run
 
 ROOM = 2000000
 SECONDS = 20
@@ -102,3 +102,33 @@ class RunCase(unittest.TestCase):
     def assert_stream(self, text, column, told):
         """Of a node with one input and one output."""
         self.assert_told(text, [[number] for number in column], [[number] for number in told])
+
+
+class BrokenCase(unittest.TestCase):
+    """Asks what breaks the last node of a text, or another."""
+
+    def asked(self, text, most, node=None):
+        node = text.count("node ") - 1 if node is None else node
+        return broken(node, most, bytes_of(text))
+
+    def assert_found(self, text, most, told, node=None):
+        """So many instants, with these bytes."""
+        self.assertEqual(self.asked(text, most, node), [len(told)] + told, text[-400:])
+
+    def assert_kept(self, text, most, node=None):
+        """Nothing breaks it in so many instants."""
+        self.assertEqual(self.asked(text, most, node), [0], text[-400:])
+
+    def assert_soonest(self, text, told, node=None):
+        """Just so many instants are needed: with one less nothing's found, with more the same."""
+        for most in range(1, 20 // width_of(text, node) + 1):
+            if most < len(told):
+                self.assert_kept(text, most, node)
+            else:
+                self.assert_found(text, most, told, node)
+
+
+def width_of(text, node=None):
+    """How many inputs a node has."""
+    names = text.split("node ")[-1 if node is None else node + 1].split("(")[1].split(")")[0]
+    return len(names.replace(";", ",").split(","))
